@@ -1,0 +1,1 @@
+"""Found: a process is found of a log of how things went."""
