@@ -15,6 +15,8 @@ BEGINS_CALL = 0
 ROW_CALL = 1
 DROP_CALL = 2
 FIND_CALL = 3
+TAKES_CALL = 4
+FOLLOWS_CALL = 5
 
 HIGHEST_STEP = 5
 MOST_STEPS_IN_A_ROW = 8
@@ -167,16 +169,50 @@ def pieces_of_rows(log, body):
     return pieces
 
 
-def may_be_empty(process):
+def steps_in(process):
+    if process[0] == STEP:
+        return [process[1]]
+    if process[0] == NOTHING:
+        return []
+    return steps_in(process[1]) + steps_in(process[2])
+
+
+def is_case(process, row):
     kind = process[0]
+    if kind == STEP:
+        return row == [process[1]]
     if kind == NOTHING:
-        return True
+        return row == []
     if kind == ONE_OF_TWO:
-        return may_be_empty(process[1]) or may_be_empty(process[2])
-    if kind == IN_A_ROW or kind == SIDE_BY_SIDE:
-        return may_be_empty(process[1]) and may_be_empty(process[2])
-    # A step never is; rounds go through their first process, which mustn't be.
-    return False
+        return is_case(process[1], row) or is_case(process[2], row)
+    if kind == ROUNDS:
+        return is_case_of_rounds(process[1], process[2], row)
+    # No step stands twice in what is found, so each step of the row can only
+    # belong to one of the two processes.
+    own = steps_in(process[1])
+    firsts = only_steps(row, own)
+    others = [step for step in row if step not in own]
+    if kind == IN_A_ROW and row != firsts + others:
+        return False
+    return is_case(process[1], firsts) and is_case(process[2], others)
+
+
+def case_ends(process, row, start):
+    return [end for end in range(start, len(row) + 1) if is_case(process, row[start:end])]
+
+
+def is_case_of_rounds(first, second, row):
+    # A case of the first has a step, so a place where one may begin is only
+    # ever reached from places ahead of it: one walk along the row is enough.
+    beginnings = {0: True}
+    ends = {}
+    for start in range(len(row)):
+        if start in beginnings:
+            for end in case_ends(first, row, start):
+                ends[end] = True
+                for place in case_ends(second, row, end):
+                    beginnings[place] = True
+    return len(row) in ends
 
 
 def put_together(kind, processes):
@@ -226,7 +262,7 @@ def found_as_rounds(log, steps, pairs):
     second_log = [piece for piece in pieces if piece[0] not in body]
     if second_log:
         first = found_of([piece for piece in pieces if piece[0] in body])
-        if not may_be_empty(first):
+        if not is_case(first, []):
             return (ROUNDS, first, found_of(second_log))
     return (ROUNDS, put_together(ONE_OF_TWO, [(STEP, step) for step in steps]), (NOTHING,))
 
@@ -245,6 +281,17 @@ def numbers_of(process):
     if is_leaf(process):
         return list(process)
     return [process[0]] + numbers_of(process[1]) + numbers_of(process[2])
+
+
+def counted(steps):
+    return [len(steps)] + steps
+
+
+def numbers_of_groups(groups):
+    numbers = [len(groups)]
+    for group in groups:
+        numbers.extend(counted(group))
+    return numbers
 
 
 def steps_fit(steps):
@@ -277,9 +324,32 @@ class House:
         process = found_of(self.rows)
         return [parts_of(process)] + numbers_of(process)
 
+    def take_steps(self, steps):
+        if not steps_fit(steps):
+            return [WRONG_STEPS]
+        return [1 if is_case(found_of(self.rows), steps) else 0]
+
+    def list_follows(self):
+        steps = steps_of(self.rows)
+        pairs = behind_pairs(self.rows)
+        numbers = [len(steps)]
+        for step in steps:
+            numbers.append(step)
+            numbers.extend(counted([other for other in steps if (step, other) in pairs]))
+        return numbers
+
+    def list_cuts(self):
+        log = [row for row in self.rows if row]
+        steps = steps_of(log)
+        pairs = behind_pairs(log)
+        numbers = [0]
+        for groups in (several_groups(steps, pairs), row_groups(steps, pairs), side_groups(log, steps, pairs)):
+            numbers.extend(numbers_of_groups(groups))
+        return numbers + counted(body_of(log, steps, pairs))
+
 
 def call_length(calls, place):
-    if calls[place] == ROW_CALL:
+    if calls[place] == ROW_CALL or calls[place] == TAKES_CALL:
         return 2 + calls[place + 1]
     if calls[place] == DROP_CALL:
         return 2
@@ -296,7 +366,12 @@ def answer_to(house, call):
         return house.drop_row(call[1])
     if number == FIND_CALL:
         return house.find_process()
-    raise NotImplementedError(f"call {number}")
+    if number == TAKES_CALL:
+        return house.take_steps(call[2:])
+    if number == FOLLOWS_CALL:
+        return house.list_follows()
+    # Only the calls 0 to 6 are handed in, so this one is cuts.
+    return house.list_cuts()
 
 
 def answers(calls):

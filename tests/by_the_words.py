@@ -1,5 +1,7 @@
-"""The document's "Found of a log" written once more, as near to its words as
-Python's sets allow, to hold the program's answers against."""
+"""The document's words written once more, as near to them as Python's sets
+allow, to hold the program's answers against."""
+
+from lines import is_case, processes_in
 
 
 def right_behind(log):
@@ -130,3 +132,82 @@ def numbers(process):
     if process[0] in (0, 1):
         return list(process)
     return [process[0]] + numbers(process[1]) + numbers(process[2])
+
+
+def counted(steps):
+    return [len(steps)] + sorted(steps)
+
+
+def follows(log):
+    behind = right_behind(log)
+    answer = [len(steps_of(log))]
+    for step in steps_of(log):
+        answer += [step] + counted({b for a, b in behind if a == step})
+    return answer
+
+
+def cuts(log):
+    log = {tuple(row) for row in log} - {()}
+    answer = [0]
+    for cut_into in (one_of_several, in_a_row, side_by_side):
+        answer.append(len(cut_into(log)))
+        for group in cut_into(log):
+            answer += counted(group)
+    return answer + counted(body(log))
+
+
+def cases(process, longest):
+    """All cases of at most that many steps, put together out of those of its processes."""
+    kind = process[0]
+    if kind == 0:
+        return {process[1:]} if longest else set()
+    if kind == 1:
+        return {()}
+    first, second = [cases(p, longest) for p in process[1:]]
+    if kind == 2:
+        return {a + b for a in first for b in second if len(a + b) <= longest}
+    if kind == 3:
+        return first | second
+    if kind == 4:
+        return {c for a in first for b in second if len(a + b) <= longest for c in put_into(a, b)}
+    known = newest = first
+    while newest:
+        newest = {a + b + c for a in first for b in second for c in newest if len(a + b + c) <= longest} - known
+        known = known | newest
+    return known
+
+
+def put_into(first, second):
+    """Each way to put two rows into one another that keeps the order in each."""
+    if not first or not second:
+        return {first + second}
+    return {first[:1] + rest for rest in put_into(first[1:], second)} | {
+        second[:1] + rest for rest in put_into(first, second[1:])}
+
+
+def answers(calls):
+    """The answers to calls as lines.py writes them, one list for each call."""
+    log = ()
+    given = []
+    for call in calls:
+        answer, log = answer_and_log(log, call)
+        given.append(answer)
+    return given
+
+
+def answer_and_log(log, call):
+    number, steps = call[0], tuple(call[2:])
+    if number == 0:
+        return [0], ()
+    if number in (1, 4) and (len(steps) > 8 or set(steps) - set(range(6))):
+        return [-1], log
+    if number == 1:
+        return ([-7], log) if len(log) == 8 else ([len(log)], log + (steps,))
+    if number == 2:
+        left = tuple(row for which, row in enumerate(log) if which != call[1])
+        return ([-2], log) if left == log else ([len(left)], left)
+    if number == 3:
+        return [len(processes_in(find(log)))] + numbers(find(log)), log
+    if number == 4:
+        return [int(is_case(find(log), steps))], log
+    return (follows(log) if number == 5 else cuts(log)), log

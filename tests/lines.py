@@ -6,6 +6,8 @@ from foundprocess.logs import answers
 
 BEGINS = [0]
 FIND = [3]
+FOLLOWS = [5]
+CUTS = [6]
 
 
 def row(*steps):
@@ -14,6 +16,10 @@ def row(*steps):
 
 def drop(which):
     return [2, which]
+
+
+def takes(*steps):
+    return [4, len(steps)] + list(steps)
 
 
 def rows(log):
@@ -48,6 +54,28 @@ def ask(*calls):
 def found(*log):
     """What find answers of this log."""
     return ask(*rows(log), FIND)[-1]
+
+
+def taken(log, asked):
+    """What takes answers of this log for each of the rows, as many as fit in a line at a time."""
+    numbers = []
+    for start in range(0, len(asked), 50):
+        calls = [takes(*steps) for steps in asked[start:start + 50]]
+        for answer in ask(*rows(log), *calls)[len(log):]:
+            if len(answer) != 1:
+                raise AssertionError(f"takes answers one number, not {answer}")
+            numbers += answer
+    return numbers
+
+
+class Watched(list):
+    """A list that tells when it's changed, even if it's changed back."""
+
+    def refuse(self, *ignored, **ignored_too):
+        raise AssertionError("what was handed in is changed")
+
+    append = clear = extend = insert = pop = remove = reverse = sort = refuse
+    __setitem__ = __delitem__ = __iadd__ = __imul__ = refuse
 
 
 def process_at(numbers, place):

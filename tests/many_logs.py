@@ -42,8 +42,18 @@ def some_process(source, steps):
     return (kind, some_process(source, steps[:place]), some_process(source, steps[place:]))
 
 
+def named(process):
+    """A process in numbers, as some_case takes it."""
+    name = ("step", "nothing", "row", "either", "side", "rounds")[process[0]]
+    if name in ("step", "nothing"):
+        return (name,) + process[1:]
+    return (name, named(process[1]), named(process[2]))
+
+
 def some_case(source, process):
     kind = process[0]
+    if kind == "nothing":
+        return ()
     if kind == "step":
         return (process[1],)
     if kind == "perhaps":
@@ -60,6 +70,19 @@ def some_case(source, process):
     while source.randint(0, 2) == 0:
         case += some_case(source, process[2]) + some_case(source, process[1])
     return case
+
+
+def near(source, steps):
+    """A row that is like this one but for one small change."""
+    place, other = source.randint(0, len(steps)), source.randrange(6)
+    changed = [
+        steps[:place] + (other,) + steps[place:],
+        steps[:place] + steps[place + 1:],
+        steps[:place] + (other,) + steps[place + 1:],
+        steps[:place] + steps[place:place + 2][::-1] + steps[place + 2:],
+        steps[place:] + steps[:place],
+        steps + steps]
+    return source.choice(changed)
 
 
 def mixed(source, first, second):

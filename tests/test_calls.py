@@ -1,14 +1,13 @@
 """begins, row and drop; how calls and answers stand in their lists."""
 
-import contextlib
-import io
 import unittest
 
 from foundprocess.logs import answers
-from lines import BEGINS, FIND, ask, drop, line, row, rows
+from lines import BEGINS, CUTS, FIND, FOLLOWS, Watched, ask, drop, line, row, rows, takes
 
 HIGHEST = 4294967295
 EIGHT_ROWS = [(0,), (1,), (2,), (3,), (4,), (5,), (0, 1), ()]
+WRONG_STEPS = [(6,), (HIGHEST,), (0, 1, 6), (0,) * 9, (1,) * 20]
 
 
 class Begins(unittest.TestCase):
@@ -102,7 +101,8 @@ class Drop(unittest.TestCase):
 class Refusals(unittest.TestCase):
     def same_without(self, before, refused, number):
         """What's answered behind a refused call is as if it hadn't been."""
-        behind = [FIND, row(2, 4), FIND, drop(0), FIND, row(3), drop(7), row(1), FIND]
+        behind = [FIND, FOLLOWS, CUTS, takes(), takes(0, 1), row(2, 4), FIND, drop(0), FIND, takes(5), row(3),
+                  FOLLOWS, CUTS, drop(7), row(1), FIND]
         with_it = ask(*before, refused, *behind)
         without = ask(*before, *behind)
         place = len(before)
@@ -110,7 +110,7 @@ class Refusals(unittest.TestCase):
         self.assertEqual(with_it[:place] + with_it[place + 1:], without)
 
     def test_all_is_as_it_was(self):
-        wrong = [row(6), row(HIGHEST), row(0, 1, 6), row(*[0] * 9), row(*[1] * 20)]
+        wrong = [call(*steps) for steps in WRONG_STEPS for call in (row, takes)]
         for log in ([], [()], [(0, 1)], [(0, 1), (1, 0), (5,)], EIGHT_ROWS):
             for refused in wrong:
                 with self.subTest(log=log, refused=refused):
@@ -125,22 +125,18 @@ class Refusals(unittest.TestCase):
                 self.same_without(rows(EIGHT_ROWS), refused, -7)
 
 
-class Watched(list):
-    """A list that tells when it's changed, even if it's changed back."""
-
-    def refuse(self, *ignored, **ignored_too):
-        raise AssertionError("what was handed in is changed")
-
-    append = clear = extend = insert = pop = remove = reverse = sort = refuse
-    __setitem__ = __delitem__ = __iadd__ = __imul__ = refuse
-
-
 class Lists(unittest.TestCase):
-    LINE = line([row(0, 1), row(1, 0), FIND, row(6), drop(2), drop(0), FIND, BEGINS, row(), FIND])
+    CALLS = [row(0, 1), row(1, 0), FIND, takes(1, 0), FOLLOWS, CUTS, row(6), takes(6), drop(2),
+             drop(0), FIND, takes(0, 1), FOLLOWS, CUTS, BEGINS, row(), FIND, takes(), FOLLOWS, CUTS]
+    LINE = line(CALLS)
 
     def test_counts_stand_ahead_of_answers(self):
         self.assertEqual(answers(self.LINE), [
-            1, 0, 1, 1, 6, 3, 4, 0, 0, 0, 1, 1, -1, 1, -2, 1, 1, 6, 3, 2, 0, 1, 0, 0, 1, 0, 1, 0, 2, 1, 1])
+            1, 0, 1, 1, 6, 3, 4, 0, 0, 0, 1, 1, 1, 7, 2, 0, 1, 1, 1, 1, 0,
+            17, 0, 1, 2, 0, 1, 1, 2, 0, 1, 2, 1, 0, 1, 1, 2, 0, 1, 1, -1, 1, -1, 1, -2,
+            1, 1, 6, 3, 2, 0, 1, 0, 0, 1, 0, 6, 2, 0, 0, 1, 1, 0,
+            17, 0, 1, 2, 0, 1, 2, 1, 1, 1, 0, 1, 2, 0, 1, 2, 0, 1,
+            1, 0, 1, 0, 2, 1, 1, 1, 1, 1, 0, 6, 0, 0, 0, 1, 0, 0])
 
     def test_single_calls(self):
         self.assertEqual(answers([0]), [1, 0])
@@ -148,12 +144,18 @@ class Lists(unittest.TestCase):
         self.assertEqual(answers([1, 1, 6]), [1, -1])
         self.assertEqual(answers([2, 0]), [1, -2])
         self.assertEqual(answers([3]), [2, 1, 1])
+        self.assertEqual(answers([4, 0]), [1, 1])
+        self.assertEqual(answers([4, 1, 5]), [1, 0])
+        self.assertEqual(answers([4, 1, 6]), [1, -1])
+        self.assertEqual(answers([5]), [1, 0])
+        self.assertEqual(answers([6]), [6, 0, 0, 0, 1, 0, 0])
 
     def test_sixty_calls(self):
         self.assertEqual(ask(*[call for k in range(20) for call in (row(3), FIND, BEGINS)]), [[0], [1, 0, 3], [0]] * 20)
 
     def test_steps_are_not_taken_for_calls(self):
         self.assertEqual(ask(row(3, 0, 2, 1), drop(0), row(0, 0), drop(3)), [[0], [0], [0], [-2]])
+        self.assertEqual(ask(takes(1, 1, 1), takes(0), takes(*[3] * 20), row(5)), [[0], [0], [-1], [0]])
 
     def test_gives_back_a_list_of_whole_numbers(self):
         given = answers(self.LINE)
@@ -163,8 +165,7 @@ class Lists(unittest.TestCase):
     def test_what_is_handed_in_is_not_changed(self):
         handed = Watched(self.LINE)
         self.assertEqual(answers(handed), answers(self.LINE))
-        self.assertEqual(list(handed), line([
-            row(0, 1), row(1, 0), FIND, row(6), drop(2), drop(0), FIND, BEGINS, row(), FIND]))
+        self.assertEqual(list(handed), line(self.CALLS))
 
     def test_asked_twice_the_same_is_answered(self):
         first = answers(self.LINE)
@@ -180,13 +181,7 @@ class Lists(unittest.TestCase):
 
     def test_each_line_has_a_new_log(self):
         answers(line(rows(EIGHT_ROWS)))
-        self.assertEqual(ask(FIND, row(0)), [[1, 1], [0]])
-
-    def test_prints_nothing(self):
-        out, err = io.StringIO(), io.StringIO()
-        with contextlib.redirect_stdout(out), contextlib.redirect_stderr(err):
-            answers(self.LINE)
-        self.assertEqual((out.getvalue(), err.getvalue()), ("", ""))
+        self.assertEqual(ask(FIND, FOLLOWS, takes(0), row(0)), [[1, 1], [0], [0], [0]])
 
 
 if __name__ == "__main__":
